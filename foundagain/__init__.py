@@ -1,1 +1,1 @@
-"""Found again: a house of texts in segments, and the merges of these."""
+"""Found again: a house of texts in segments, the merges of these, and the disk on which it is kept."""

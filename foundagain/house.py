@@ -1,6 +1,6 @@
-"""The calls on a house, as they stand in one list of numbers, and what they answer."""
+"""The calls on a house and its disk, as they stand in one list of numbers, and what they answer."""
 
-from foundagain.state import House
+from foundagain.keeper import Keeper
 
 PUT = 0
 DROP = 1
@@ -10,17 +10,24 @@ WORK = 4
 END = 5
 TIDY = 6
 SEGMENTS = 7
+FIND = 8
+TEXT = 9
+KEEP = 10
+FAIL = 11
+REOPEN = 12
+DEEDS = 13
+BLOCK = 14
 
 
 def answers(calls):
     """For each call, in order, how many numbers are answered, then these."""
-    house = House()
+    keeper = Keeper()
     answered = []
     place = 0
     while place < len(calls):
         first = place + 2
         behind = first + calls[place + 1]
-        answer = answer_of(house, calls[place], calls[first:behind])
+        answer = answer_of(keeper, calls[place], calls[first:behind])
         answered.append(len(answer))
         answered.extend(answer)
         # No call is handed a list: the count of its lists, always 0, is stepped over.
@@ -28,8 +35,15 @@ def answers(calls):
     return answered
 
 
-def answer_of(house, call, numbers):
-    """What the house answers to one call with these numbers."""
+def answer_of(keeper, call, numbers):
+    """What is answered to one call with these numbers."""
+    if call <= TEXT:
+        return answer_of_house(keeper.house, call, numbers)
+    return answer_of_keeper(keeper, call, numbers)
+
+
+def answer_of_house(house, call, numbers):
+    """What the house answers to one of the calls that have nothing to do with its disk."""
     if call == PUT:
         return house.put(numbers[0], numbers[1:])
     if call == DROP:
@@ -46,4 +60,21 @@ def answer_of(house, call, numbers):
         return house.tidy()
     if call == SEGMENTS:
         return house.segments()
-    raise NotImplementedError("of the calls, put to segments are built so far")
+    if call == FIND:
+        return house.find(numbers)
+    return house.text(numbers[0])
+
+
+def answer_of_keeper(keeper, call, numbers):
+    """What is answered to one of the calls about the disk."""
+    if call == KEEP:
+        return keeper.keep()
+    if call == FAIL:
+        return keeper.fail(numbers[0], numbers[1:])
+    if call == REOPEN:
+        return keeper.reopen()
+    if call == DEEDS:
+        return keeper.deeds()
+    if call == BLOCK:
+        return keeper.block(numbers[0])
+    return keeper.free()

@@ -8,6 +8,8 @@ class Segment:
         self.number = number
         self.texts = []
         self.lives = []
+        # The first block of its file. Block 0 is a root, so 0 tells that it has no file yet.
+        self.file = 0
 
     def take(self, key, words):
         """Sets a living text behind the others."""
@@ -20,6 +22,15 @@ class Segment:
             if text[0] in keys:
                 self.lives[place] = False
 
+    def bury_at(self, places):
+        """Lets the texts at these places be dead from now on."""
+        for place in places:
+            self.lives[place] = False
+
     def living(self):
         """How many of the texts live."""
         return self.lives.count(True)
+
+    def dead(self):
+        """At which places dead texts stand, rising."""
+        return [place for place, lives in enumerate(self.lives) if not lives]

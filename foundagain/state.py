@@ -15,15 +15,21 @@ def are_words(numbers):
     return len(numbers) <= 10 and all([1 <= number <= 50 for number in numbers])
 
 
+def has_all(words, asked):
+    """Whether all that are asked are among these words."""
+    return all([word in words for word in asked])
+
+
 class House:
     """A method that a call names gives back the numbers answered; one number below 0 is a refusal."""
 
-    def __init__(self):
-        self.row = []
+    def __init__(self, row, upcoming):
+        self.row = row
         # For each key its words, or None where it's dropped.
         self.waiting = {}
         self.merges = {}
-        self.upcoming = 1
+        # The next number to be drawn.
+        self.upcoming = upcoming
 
     def put(self, key, words):
         """Lets a text wait."""
@@ -52,7 +58,7 @@ class House:
                 made.take(key, self.waiting[key])
             self.row.append(made)
         self.waiting = {}
-        return [sum([segment.living() for segment in self.row])]
+        return [self.living()]
 
     def begin(self, numbers):
         """Begins a merge of the segments of these numbers, in this order."""
@@ -101,6 +107,32 @@ class House:
         for segment in self.row:
             told.extend([segment.number, len(segment.texts), segment.living()])
         return told
+
+    def find(self, words):
+        """Tells the keys of the living texts that have all these words."""
+        texts = self.living_texts()
+        keys = [key for key in sorted(texts) if has_all(texts[key], words)]
+        return [len(keys)] + keys
+
+    def text(self, key):
+        """Tells the words of the living text of a key."""
+        texts = self.living_texts()
+        if key not in texts:
+            return [-3]
+        return [len(texts[key])] + texts[key]
+
+    def living(self):
+        """How many texts live in the segments."""
+        return sum([segment.living() for segment in self.row])
+
+    def living_texts(self):
+        """The words of each living text by its key: of no key more than one lives."""
+        texts = {}
+        for segment in self.row:
+            for place, text in enumerate(segment.texts):
+                if segment.lives[place]:
+                    texts[text[0]] = text[1]
+        return texts
 
     def draw(self):
         """Draws a number from the one row that segments and merges have."""

@@ -35,6 +35,38 @@ def segments():
     return [7, 0, 0]
 
 
+def find(*words):
+    return [8, len(words), *words, 0]
+
+
+def text(key):
+    return [9, 1, key, 0]
+
+
+def keep():
+    return [10, 0, 0]
+
+
+def fail(deeds, *counts):
+    return [11, 1 + len(counts), deeds, *counts, 0]
+
+
+def reopen():
+    return [12, 0, 0]
+
+
+def deeds():
+    return [13, 0, 0]
+
+
+def block(number):
+    return [14, 1, number, 0]
+
+
+def free():
+    return [15, 0, 0]
+
+
 def made(*keys):
     """Calls by which a segment of the texts of these keys is made."""
     return [put(key) for key in keys] + [make()]
@@ -64,6 +96,44 @@ def told(*calls):
 def last(*calls):
     """What a new house answers to the last of these calls."""
     return told(*calls)[-1]
+
+
+def last_of(count, *calls):
+    """What a new house answers to the last of these calls, so many of them."""
+    return told(*calls)[-count:]
+
+
+def blocks_behind(*calls):
+    """The rows that stand in the blocks behind these calls, by their blocks; those without numbers are left out."""
+    rows = {}
+    for first in range(0, 64, 16):
+        # No line has more than 60 calls, so the blocks are asked in four parts.
+        asked = range(first, first + 16)
+        for number, answer in zip(asked, last_of(16, *calls, *[block(number) for number in asked])):
+            if answer != [0]:
+                rows[number] = answer[1:]
+    return rows
+
+
+def deeds_told(answer):
+    """The deeds, a block and its row for a writing and None for a flush, out of an answer of deeds."""
+    found = []
+    place = 1
+    while place < len(answer):
+        if answer[place] == 0:
+            found.append(None)
+            place += 1
+        else:
+            behind = place + 3 + answer[place + 2]
+            found.append((answer[place + 1], answer[place + 3:behind]))
+            place = behind
+    assert len(found) == answer[0] and place == len(answer)
+    return found
+
+
+def deeds_behind(*calls):
+    """The deeds that a keeping would do behind these calls."""
+    return deeds_told(last(*calls, deeds()))
 
 
 def order_of(calls, numbers, merge, keys):

@@ -16,6 +16,7 @@ class Model:
         self.merges = {}
         self.living = {}
         self.died = {}
+        self.words = {}
 
     def draw(self):
         self.drawn += 1
@@ -27,13 +28,13 @@ class Model:
     def put(self, key, *words):
         if key not in range(1, 101) or set(words) - set(range(1, 51)) or len(words) > 10:
             return [-1]
-        self.wait[key] = True
+        self.wait[key] = list(words)
         return [len(self.wait)]
 
     def drop(self, key):
         if key not in range(1, 101):
             return [-1]
-        self.wait[key] = False
+        self.wait[key] = None
         return [len(self.wait)]
 
     def make(self):
@@ -41,8 +42,9 @@ class Model:
         for key in self.wait:
             if key in self.living:
                 self.died[self.living.pop(key)] = self.makes
-        texts = [(key, self.makes) for key in range(1, 101) if self.wait.get(key)]
+        texts = [(key, self.makes) for key in range(1, 101) if self.wait.get(key) is not None]
         self.living.update({text[0]: text for text in texts})
+        self.words.update({text: self.wait[text[0]] for text in texts})
         if texts:
             self.row.append((self.draw(), texts))
         self.wait = {}
@@ -107,8 +109,11 @@ class Model:
         told = [[number, len(texts), self.alive(texts)] for number, texts in self.row]
         return [len(told)] + [number for row in told for number in row]
 
+    def find(self, *words):
+        keys = [key for key in range(1, 101) if key in self.living and set(words) <= set(self.words[self.living[key]])]
+        return [len(keys)] + keys
 
-def answer_of(model, call):
-    """What the model answers to a call that is written as the document's interface tells."""
-    methods = (model.put, model.drop, model.make, model.begin, model.work, model.end, model.tidy, model.segments)
-    return methods[call[0]](*call[2:-1])
+    def text(self, key):
+        if key not in self.living:
+            return [-3]
+        return [len(self.words[self.living[key]])] + self.words[self.living[key]]

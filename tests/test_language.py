@@ -1,6 +1,7 @@
 """The form of the package's files: those rules of the program's language that a reader of trees can see."""
 
 import ast
+import builtins
 import keyword
 import re
 import unittest
@@ -31,6 +32,10 @@ NO_NAMES = NO_ATTRIBUTES | set("""attrgetter breakpoint builtins compile copyrig
 NO_WORDS = re.compile(r"\b(type|typing|typing_extensions|enum|Enum|IntEnum|StrEnum|Flag|IntFlag|Generic|Protocol|ABC"
                       r"|ABCMeta|namedtuple|NamedTuple|TypedDict|TYPE_CHECKING|abstractmethod)\b"
                       r"|dataclass|overload|contextmanager")
+# Names of Python's own values that the program's methods may bear, or the values of its objects.
+METHODS_TOO = METHODS | {"add", "discard"}
+VALUES_TOO = set("count index title find get join lower upper split strip copy add".split())
+PYTHONS_OWN = {name for kind in (str, int, list, tuple, dict, set, bytes) for name in dir(kind)}
 TWO_UNDERSCORES = ("__init__", "__eq__", "__repr__", "__str__", "__len__")
 
 
@@ -155,6 +160,29 @@ class Form(unittest.TestCase):
             if isinstance(node.func, ast.Attribute):
                 self.assertIn(node.func.attr, methods | METHODS | set(TWO_UNDERSCORES), place)
             self.assertFalse([part for part in node.args if isinstance(part, ast.Starred)], place)
+
+    def test_no_local_is_called_like_an_import_or_a_class(self):
+        for path in files():
+            tree = ast.parse(path.read_text(encoding="utf-8"))
+            taken = {alias.name for node in tree.body if isinstance(node, ast.ImportFrom) for alias in node.names}
+            taken |= {node.name for node in tree.body if isinstance(node, ast.ClassDef)} | set(dir(builtins))
+            for node in ast.walk(tree):
+                if isinstance(node, ast.FunctionDef):
+                    self.assertFalse((bound_names(node) - {node.name}) & taken, f"{path.name}:{node.lineno}")
+
+    def test_own_names_are_not_those_of_pythons_values(self):
+        for place, node in nodes(ast.ClassDef):
+            named = {part.name for part in node.body[1:]} - set(TWO_UNDERSCORES)
+            self.assertFalse((named & PYTHONS_OWN) - METHODS_TOO, place)
+        for place, node in nodes(ast.Attribute):
+            if isinstance(node.ctx, ast.Store):
+                self.assertFalse(({node.attr} & PYTHONS_OWN) - VALUES_TOO, place)
+
+    def test_errors_are_the_programs_own(self):
+        own = {node.name for place, node in nodes(ast.ClassDef)}
+        for place, node in nodes((ast.ExceptHandler, ast.Raise)):
+            named = node.type if isinstance(node, ast.ExceptHandler) else node.exc.func
+            self.assertIn(named.id, own, place)
 
     def test_is_stands_beside_plain_values(self):
         for place, node in nodes(ast.Compare):
